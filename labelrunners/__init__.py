@@ -1,0 +1,1 @@
+"""Runners by labels: jobs that ask labels, served by machines that have them."""
