@@ -1,4 +1,4 @@
-"""Which jobs are chosen, and on which machines they are placed.
+"""Which jobs are chosen, on which machines they are placed, and which are a job's rivals.
 
 Machines are handed in as a list, by number; jobs as a list, in the queue's order.
 """
@@ -6,6 +6,10 @@ Machines are handed in as a list, by number; jobs as a list, in the queue's orde
 
 def suits(machine, job):
     return (job.labels & machine.labels) == job.labels
+
+
+def suits_one_of(machine, jobs):
+    return any([suits(machine, job) for job in jobs])
 
 
 # The jobs in holders (by the number of the machine that each holds) move on to other machines
@@ -59,3 +63,15 @@ def place(chosen, machines):
         placed.append(machine)
         left = without(left, machine)
     return placed
+
+
+# The chosen jobs are handed in with their machines, in the order in which they are chosen; so are
+# the rivals given back.
+def find_rivals(job, placed):
+    rivals = []
+    # A rival stays one in each later step, as its machine suits itself; and behind a step that
+    # finds none more no other one does. So as many steps as there are chosen jobs find all.
+    for step in range(len(placed)):
+        in_the_way_of = [job] + rivals
+        rivals = [chosen for chosen, machine in placed if suits_one_of(machine, in_the_way_of)]
+    return rivals

@@ -31,6 +31,30 @@ def tick(minutes):
     return [6, minutes]
 
 
+def drain(number):
+    return [7, number]
+
+
+def cancel(number):
+    return [8, number]
+
+
+def why(number):
+    return [9, number]
+
+
+def queue():
+    return [10]
+
+
+def machines():
+    return [11]
+
+
+def ends():
+    return [12]
+
+
 def line_of(calls):
     return [number for call in calls for number in call]
 
@@ -57,3 +81,9 @@ def ask(*calls):
 
 def last(*calls):
     return ask(*calls)[-1]
+
+
+def state_behind(*calls):
+    """All that a house tells of itself behind the calls, the jobs asked for being 0 to 19."""
+    looks = [queue(), machines(), ends()] + [why(number) for number in range(20)]
+    return ask(*calls, *looks, serve())[len(calls):]

@@ -1,7 +1,7 @@
 import unittest
 
-from helper import ask, beat, begins, job, last, machine, result, serve, tick
-from labelrunners.house import House, answers
+from helper import ask, beat, begins, job, last, machine, queue, result, serve, tick
+from labelrunners.house import answers
 
 MOST = 1000000
 GREATEST = 4294967295
@@ -76,13 +76,8 @@ class Lost(unittest.TestCase):
         self.assertEqual(last(*calls), [1, 5, 1, 1])
 
     def test_lost_once_more(self):
-        house = House()
-        house.add_job(5, 0, 0, 1)
-        for times in (1, 2):
-            house.add_machine(1, 0)
-            house.serve()
-            house.tick(6)
-            self.assertEqual(house.jobs[0].times_lost, times)
+        calls = [job(5), queue()] + [machine(1), serve(), tick(6), queue()] * 2
+        self.assertEqual(ask(*calls)[1::4], [[1, 5, 0, 1, 0], [1, 5, 0, 1, 1], [1, 5, 1, 1, 2]])
 
     def test_result_for_a_job_whose_machine_was_lost(self):
         for passed in (0, 1, 2):
